@@ -1,0 +1,1 @@
+"""Offerstands: what a stream of offers leaves of whoever chooses."""

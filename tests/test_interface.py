@@ -1,0 +1,81 @@
+"""The interface: names, parameters, and the files in which they are defined."""
+
+import ast
+import importlib
+import inspect
+import pathlib
+import unittest
+
+PACKAGE = pathlib.Path(__file__).resolve().parent.parent / "offerstands"
+
+FUNCTIONS = {
+    "choosers": ["is_set(offers, thing)", "all_sets(offers)", "together(one, other)"],
+    "lists": [
+        "is_list(offers, thing)", "are_lists(offers, thing)", "firsts(lists, some)", "by_lists(offers, lists)",
+        "is_apart(chooser)", "first_against(chooser)", "judge_apart(chooser)", "apart_holds(chooser, thing)",
+    ],
+    "corners": [
+        "closed(chooser, some)", "closed_sets(chooser)", "same_picks(chooser, some)", "corners(chooser)",
+        "many_lists(chooser)", "fewest_lists(chooser)", "judge_fewest(chooser)", "fewest_hold(chooser, thing)",
+    ],
+    "making": [
+        "first_some(offers, row, many)", "either_of(one, other)", "in_turn(one, other)", "leaving_out(chooser, some)",
+        "renamed(chooser, order)", "first_other_picks(one, other)",
+    ],
+    "trades": [
+        "is_dated(trade, thing)", "is_stream(trade, thing)", "stream_text(stream)", "stream_read(trade, text)",
+        "put_together(one, other)", "aged(dated, days)", "offers_of(dated)",
+    ],
+    "streams": [
+        "stands(trade, stream, *, start=())", "moments(trade, stream, *, start=())",
+        "picks_along(chooser, trade, stream, *, start=())", "bringing(trade, dated)",
+    ],
+}
+CLASSES = {
+    "choosers": {"Chooser": {
+        "__init__": "(self, offers, picks)", "__len__": "(self)", "__eq__": "(self, other)", "__str__": "(self)",
+        "read": "(cls, text)", "taken": "(self, some)",
+    }},
+    "trades": {"Trade": {
+        "__init__": "(self, lives, loose)", "__len__": "(self)", "__eq__": "(self, other)", "__str__": "(self)",
+        "read": "(cls, text)",
+    }},
+}
+
+
+def module(name):
+    return importlib.import_module("offerstands." + name)
+
+
+class InterfaceTest(unittest.TestCase):
+    def test_functions(self):
+        for name, rows in FUNCTIONS.items():
+            for row in rows:
+                function = getattr(module(name), row.partition("(")[0])
+                self.assertEqual(function.__name__ + str(inspect.signature(function)), row)
+                self.assertEqual(function.__module__, "offerstands." + name)
+
+    def test_classes(self):
+        for name, classes in CLASSES.items():
+            for word, methods in classes.items():
+                made = getattr(module(name), word)
+                self.assertEqual(made.__module__, "offerstands." + name)
+                for method, told in methods.items():
+                    self.assertIn(method, vars(made))
+                    there = vars(made)[method]
+                    self.assertEqual(isinstance(there, classmethod), told.startswith("(cls"))
+                    plain = there.__func__ if isinstance(there, classmethod) else there
+                    self.assertEqual(str(inspect.signature(plain)), told)
+
+    def test_names_that_begin_with_a_question_tell_true_or_false(self):
+        words = ("is_", "are_", "can_", "does_")
+        for path in PACKAGE.glob("*.py"):
+            for node in ast.walk(ast.parse(path.read_text())):
+                if isinstance(node, ast.FunctionDef):
+                    asks = node.name.startswith(words) or node.name.endswith(("_hold", "_holds"))
+                    nothing = [row for row in ast.walk(node) if isinstance(row, ast.Return) and row.value is None]
+                    self.assertFalse(asks and nothing, node.name)
+
+
+if __name__ == "__main__":
+    unittest.main()
