@@ -44,8 +44,7 @@ class Chooser:
 
     def taken(self, some):
         """What is taken of a set."""
-        if not is_set(self.offers, some):
-            raise BadSet(some)
+        require_set(self, some)
         return self._table[some]
 
 
@@ -59,6 +58,12 @@ def is_set(offers, thing):
             return False
         least = item + 1
     return True
+
+
+def require_set(chooser, thing):
+    """Raise BadSet for a value that is no set of the chooser's offers."""
+    if not is_set(chooser.offers, thing):
+        raise BadSet(thing)
 
 
 def all_sets(offers):

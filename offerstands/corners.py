@@ -1,7 +1,7 @@
 """Closed sets, corners, fewest lists ([1.4], [1.5])."""
 
-from offerstands.choosers import all_sets, is_set, is_within, together, without
-from offerstands.errors import Against, BadSet
+from offerstands.choosers import all_sets, is_set, is_within, require_set, together, without
+from offerstands.errors import Against
 from offerstands.lists import are_lists, do_lists_tell, first_against, is_apart, list_through
 from offerstands.values import are_in_order, in_order, is_paper
 
@@ -67,12 +67,6 @@ def require_apart(chooser):
     pair = first_against(chooser)
     if pair is not None:
         raise Against(pair[0], pair[1])
-
-
-def require_set(chooser, some):
-    """Raise BadSet for a value that is no set of the chooser's offers."""
-    if not is_set(chooser.offers, some):
-        raise BadSet(some)
 
 
 def closing(chooser, some):

@@ -1,7 +1,6 @@
 """Choosers that are made of lists, or of other choosers ([1.6])."""
 
-from offerstands.choosers import all_sets, chooser_of, is_set, together, without
-from offerstands.errors import BadSet
+from offerstands.choosers import all_sets, chooser_of, require_set, together, without
 from offerstands.values import require_equal_offers
 
 
@@ -36,8 +35,7 @@ def taken_in_turn(one, other, some):
 
 def leaving_out(chooser, some):
     """The chooser that takes what another one takes of the offers that are not left out."""
-    if not is_set(chooser.offers, some):
-        raise BadSet(some)
+    require_set(chooser, some)
     return chooser_of(chooser.offers, lambda whole: chooser.taken(without(whole, some)))
 
 

@@ -51,3 +51,27 @@ def behind(trade, dated, deed):
 def picked(chooser, dated):
     """What a chooser takes of the offers that stand."""
     return chooser.taken(offers_of(dated))
+
+
+def search(trade, deeds, starts, is_wanted):
+    """The first stream of some deeds that leads to what is wanted, and all that was met ahead of it.
+
+    What is met is a tuple with what stands behind a stream from each of the starts on; a function
+    tells whether it is wanted. The stream is None if nothing that can be met is.
+    """
+    met = {starts: True}
+    rows = [(starts, ())]
+    if is_wanted(starts):
+        return ((), list(met))
+    while rows:
+        further = []
+        for state, stream in rows:
+            for deed in deeds:
+                found = tuple([behind(trade, dated, deed) for dated in state])
+                if found not in met:
+                    met[found] = True
+                    further.append((found, (*stream, deed)))
+                    if is_wanted(found):
+                        return (further[-1][1], list(met))
+        rows = further
+    return (None, list(met))

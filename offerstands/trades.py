@@ -149,6 +149,15 @@ def offers_of(dated):
     return tuple([offer for offer, _ in dated])
 
 
+def all_dated(trade):
+    """A list of all dated sets within a trade."""
+    found = [()]
+    for offer, life in enumerate(trade.lives):
+        grown = [(*dated, (offer, days)) for dated in found for days in range(1, life + 1)]
+        found = found + grown
+    return found
+
+
 def require_dated(trade, thing):
     """Raise BadDated for a value that is no dated set within the trade."""
     if not is_dated(trade, thing):

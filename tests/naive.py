@@ -2,7 +2,7 @@
 
 from itertools import combinations
 
-from samples import deeds_of_trade, every_dated
+from samples import deeds_of_trade, every_dated, streams_in_order
 
 
 def sets_of(offers):
@@ -150,3 +150,80 @@ def classes(trade, answer):
         if len(numbers) == len(set(marks.values())):
             return {dated: numbers[rows[dated]] for dated in stood}
         marks = {dated: repr(numbers[rows[dated]]) for dated in stood}
+
+
+def first_stream(trade, is_right, longest):
+    """The first stream of up to so many deeds that is right, None if there is none."""
+    for stream in streams_in_order(trade, longest):
+        if is_right(stream):
+            return stream
+    return None
+
+
+def does_show(chooser, trade, dated, offer, stream):
+    end = stands(trade, stream, dated)
+    return ("come", offer) not in stream and offer in dict(end) and offer in picks_at(chooser, end)
+
+
+def does_part(chooser, trade, one, other, stream):
+    return picks_at(chooser, stands(trade, stream, one)) != picks_at(chooser, stands(trade, stream, other))
+
+
+def is_guard(chooser, trade, dated, offer, some):
+    days = dict(dated)
+    for other in some:
+        if other == offer or other in trade.loose or days.get(other, 0) < days[offer]:
+            return False
+    return offer not in picks_of(chooser)[union(some, (offer,))]
+
+
+def is_agreed(near, far, some):
+    return picks_of(near)[some] == some == picks_of(far)[some]
+
+
+def is_wished(chooser, some, offer):
+    return offer not in some and offer in picks_of(chooser)[union(some, (offer,))]
+
+
+def is_settled(near, far, standing, part):
+    if not set(part) <= set(standing) or not is_agreed(near, far, part):
+        return False
+    return not any(is_wished(near, part, x) and is_wished(far, part, x) for x in standing)
+
+
+def settled_sets(near, far, standing):
+    return tuple(part for part in parts_of(standing) if is_settled(near, far, standing, part))
+
+
+def is_as_good(chooser, one, other):
+    return picks_of(chooser)[union(one, other)] == one
+
+
+def best_settled(near, far, standing):
+    """The settled set that is as good for the near side as each other one."""
+    sets = settled_sets(near, far, standing)
+    best = [one for one in sets if all(is_as_good(near, one, other) for other in sets)]
+    assert len(best) == 1 and all(is_as_good(far, other, best[0]) for other in sets)
+    return best[0]
+
+
+def rounds_of(near, far, standing):
+    ever, refused, rounds = set(), set(), []
+    while True:
+        proposed = picks_of(near)[tuple(x for x in standing if x not in refused)]
+        ever |= set(proposed)
+        kept = picks_of(far)[tuple(sorted(ever))]
+        rounds.append((proposed, kept))
+        new = ever - set(kept) - refused
+        if not new:
+            return tuple(rounds)
+        refused |= new
+
+
+def answer_to(question, some):
+    if question[0] == "picks":
+        return picks_of(question[1])[some]
+    if question[0] == "takes":
+        return question[2] in picks_of(question[1])[some]
+    ask = settled_sets if question[0] == "settled" else best_settled
+    return ask(question[1], question[2], some)

@@ -30,6 +30,29 @@ FUNCTIONS = {
         "stands(trade, stream, *, start=())", "moments(trade, stream, *, start=())",
         "picks_along(chooser, trade, stream, *, start=())", "bringing(trade, dated)",
     ],
+    "skylines": [
+        "skyline(chooser, trade, dated)", "is_skyline(chooser, trade, dated)", "joined(chooser, trade, one, other)",
+        "skylines(chooser, trade, *, most=400)", "shown_ever(chooser, trade, dated)",
+        "are_ever_same(chooser, trade, one, other)", "first_parting(chooser, trade, one, other)",
+        "judge_ever(chooser, trade, one, other)", "ever_holds(chooser, trade, one, other, thing)",
+    ],
+    "guards": [
+        "least_guards(chooser, trade, dated, offer)", "first_showing(chooser, trade, dated, offer)",
+        "judge_offer(chooser, trade, dated, offer)", "offer_holds(chooser, trade, dated, offer, thing)",
+    ],
+    "idle": ["idle_deeds(chooser, trade, stream, *, start=())", "plain_stream(chooser, trade, stream, *, start=())"],
+    "sides": [
+        "is_agreed(near, far, some)", "wished_by_both(near, far, some)", "is_settled(near, far, standing, part)",
+        "judge_settled(near, far, standing, part)", "settled_holds(near, far, standing, part, thing)",
+        "settled_sets(near, far, standing)", "is_as_good(chooser, one, other)",
+    ],
+    "rounds": ["rounds_of(near, far, standing)", "best_settled(near, far, standing)"],
+    "questions": ["is_question(thing)", "answer_to(question, offers)", "deeds_of(trade)"],
+    "oneness": [
+        "are_one(question, trade, one, other)", "first_unlike(question, trade, one, other)",
+        "judge_one(question, trade, one, other)", "one_holds(question, trade, one, other, thing)",
+        "is_told_by(question, other, trade)", "first_untold(question, other, trade)",
+    ],
 }
 CLASSES = {
     "choosers": {"Chooser": {

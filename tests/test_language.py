@@ -22,14 +22,14 @@ DOUBLE = ("__init__", "__eq__", "__len__", "__str__", "__repr__")
 BARRED = set("""register mro elements open input law version_info with_traceback add_note attrgetter breakpoint builtins
     compile copyright credits delattr dir eval exec exit gc getattr globals hasattr help id importlib license locals
     methodcaller os quit setattr super type vars sys""".split())
-WORDS = r"\b(typing|typing_extensions|enum|Enum|IntEnum|Generic|Protocol|ABC|ABCMeta|namedtuple|type|_wall\w*|_WallAttr)\b"
+WORDS = r"\b(type|typing|typing_extensions|enum|Enum|IntEnum|Generic|Protocol|ABC|ABCMeta|namedtuple|_wall\w*)\b"
 KEYWORDS = {"sorted": ("key", "reverse"), "min": ("key", "default"), "max": ("key", "default"), "sum": ("start",),
             "enumerate": ("start",), "zip": ("strict",)}
 # None of these is needed so far, or is allowed at all.
 FORBIDDEN = (
     ast.Global, ast.Nonlocal, ast.AsyncFunctionDef, ast.Await, ast.AsyncFor, ast.AsyncWith, ast.Yield, ast.YieldFrom,
-    ast.GeneratorExp, ast.Set, ast.SetComp, ast.Div, ast.Try, ast.With, ast.Match, ast.Delete, ast.AnnAssign, ast.Import,
-    ast.MatMult,
+    ast.GeneratorExp, ast.Set, ast.SetComp, ast.Div, ast.Try, ast.With, ast.Match, ast.Delete, ast.AnnAssign,
+    ast.Import, ast.MatMult,
 )
 
 
@@ -221,9 +221,10 @@ class ExpressionsTest(unittest.TestCase):
         for name, node in self.each(ast.Name):
             if isinstance(node.ctx, ast.Load) and node.id in (BUILTINS | made):
                 told = isinstance(node.parent, ast.Call) and node.parent.func is node
-                asked = is_call_of(node.parent, ("isinstance",)) or isinstance(node.parent, (ast.ClassDef, ast.FunctionDef))
+                asked = is_call_of(node.parent, ("isinstance",))
+                above = isinstance(node.parent, (ast.ClassDef, ast.FunctionDef))
                 listed = isinstance(node.parent, ast.Tuple) and is_call_of(node.parent.parent, ("isinstance",))
-                self.assertTrue(told or asked or listed, (name, node.lineno, node.id))
+                self.assertTrue(told or asked or above or listed, (name, node.lineno, node.id))
 
     def test_raised_errors_are_made_on_the_spot(self):
         errors = defined(trees()["errors"])
@@ -256,7 +257,8 @@ class ExpressionsTest(unittest.TestCase):
             for part in [inner for row in node.body for inner in ast.walk(row)]:
                 if isinstance(part, ast.Attribute) and part.attr in changes and isinstance(part.value, ast.Name):
                     self.assertNotIn(part.value.id, over, (name, part.lineno))
-                if isinstance(part, ast.Subscript) and isinstance(part.ctx, ast.Store) and isinstance(part.value, ast.Name):
+                is_put = isinstance(part, ast.Subscript) and isinstance(part.ctx, ast.Store)
+                if is_put and isinstance(part.value, ast.Name):
                     self.assertNotIn(part.value.id, over, (name, part.lineno))
 
 

@@ -109,7 +109,8 @@ class ApartTest(unittest.TestCase):
 
     def test_papers_of_other_hands(self):
         lists = ((0, 1, 2), (2, 1))
-        for right in (lists, lists[::-1], lists + lists, lists + ((0,),), lists + ((),), ((0, 1), (2, 1, 0), (0, 2, 1))):
+        for right in (lists, lists[::-1], lists + lists, lists + ((0,),), lists + ((),), ((0, 1), (2, 1, 0), (0, 2,
+            1))):
             self.assertEqual(naive.tells(right, TWO), True)
             self.assertIs(apart_holds(TWO, ("lists", right)), True)
         for wrong in ((), lists[:1], lists + ((1, 0, 2),), ((0, 1, 2), (1, 2)), ((0, 2, 1), (2, 0, 1))):
@@ -127,7 +128,8 @@ class ApartTest(unittest.TestCase):
                     self.assertIs(apart_holds(chooser, ("against", some, part)), right)
 
     def test_any_value_as_paper(self):
-        papers = [("lists", ((0, 1),)), ("lists", ()), ("against", (0, 1), (0,)), judge_apart(TWO), judge_apart(NOT_APART)]
+        papers = [("lists", ((0, 1),)), ("lists", ()), ("against", (0, 1), (0,)), judge_apart(TWO),
+            judge_apart(NOT_APART)]
         for chooser in (BEST, NONE, NOT_APART):
             for thing in any_values() + [worse for paper in papers for worse in spoilt(paper)]:
                 self.assertIs(called(self, apart_holds, chooser, thing), self.right_paper(chooser, thing))

@@ -6,7 +6,8 @@ from itertools import permutations
 
 import naive
 from samples import (
-    BEST, BOTH, GREATEST, LEAST, NOT_APART, TWO, any_values, called, every_chooser, every_list, is_same, random_choosers,
+    BEST, BOTH, GREATEST, LEAST, NOT_APART, TWO, any_values, called, every_chooser, every_list, is_same,
+    random_choosers,
     random_list, refused, spoilt,
 )
 
