@@ -164,7 +164,7 @@ class TextTest(unittest.TestCase):
         lines = str(TWO).split("\n")
         for at in range(1, len(lines)):
             for worse in ("", " ", "--", "- ", "00", "0  1", "0 1 ", " 0", "2 1", "0 0", "3", "- 0", "x", "+0", "-0",
-                "0,1"):
+                          "0,1"):
                 text = "\n".join(lines[:at] + [worse] + lines[at + 1:])
                 refused(self, BadText, {"line": at + 1}, Chooser.read, text)
             later = "\n".join(lines[:at] + ["x"] + ["y"] * (len(lines) - at - 1) + ["z"])

@@ -97,10 +97,10 @@ class GuardsTest(unittest.TestCase):
         met = {}
         least = by_lists(3, ((0, 1, 2),))
         far = [
-            (least, Trade((3, 3, 3), (1,)), ((0, 2), (1, 3), (2, 3)), 2), (least, Trade((2, 2, 3), (0, 1)), ((0, 2),
-            (2, 3)), 2),
-            (least, Trade((3, 3, 3), (0, 1)), ((0, 3), (1, 2), (2, 2)), 2), (least, Trade((1, 2, 3), ()), ((1, 2), (2,
-            3)), 2),
+            (least, Trade((3, 3, 3), (1,)), ((0, 2), (1, 3), (2, 3)), 2),
+            (least, Trade((2, 2, 3), (0, 1)), ((0, 2), (2, 3)), 2),
+            (least, Trade((3, 3, 3), (0, 1)), ((0, 3), (1, 2), (2, 2)), 2),
+            (least, Trade((1, 2, 3), ()), ((1, 2), (2, 3)), 2),
             (least, Trade((2, 2, 3), (0,)), ((0, 2), (1, 2), (2, 3)), 2),
         ]
         for chooser, trade, dated, offer in far + list(cases(62))[::3]:
@@ -111,6 +111,12 @@ class GuardsTest(unittest.TestCase):
                 self.assertEqual(stream, told)
                 met[len(stream)] = True
         self.assertTrue({0, 1, 2, 3} <= set(met), met)
+
+    def test_the_offer_does_not_come_in_the_first_stream(self):
+        # Were it let come, two days would be as short as three takings back, and ahead of them.
+        chooser, trade = by_lists(4, ((1, 2, 3, 0),)), Trade((3, 2, 2, 2), (1, 2, 3))
+        dated = ((0, 1), (1, 2), (2, 2), (3, 2))
+        self.assertEqual(first_showing(chooser, trade, dated, 0), (("gone", 1), ("gone", 2), ("gone", 3)))
 
 
 class PapersTest(unittest.TestCase):

@@ -109,8 +109,8 @@ class ApartTest(unittest.TestCase):
 
     def test_papers_of_other_hands(self):
         lists = ((0, 1, 2), (2, 1))
-        for right in (lists, lists[::-1], lists + lists, lists + ((0,),), lists + ((),), ((0, 1), (2, 1, 0), (0, 2,
-            1))):
+        for right in (lists, lists[::-1], lists + lists, lists + ((0,),), lists + ((),),
+                      ((0, 1), (2, 1, 0), (0, 2, 1))):
             self.assertEqual(naive.tells(right, TWO), True)
             self.assertIs(apart_holds(TWO, ("lists", right)), True)
         for wrong in ((), lists[:1], lists + ((1, 0, 2),), ((0, 1, 2), (1, 2)), ((0, 2, 1), (2, 0, 1))):

@@ -26,8 +26,8 @@ MANY = Trade((2, 2, 2, 2), (1, 3))
 
 def small_questions():
     found = [PICKS, ("picks", NOT_APART), ("picks", NONE), ("takes", BEST, 0), ("takes", NOT_APART, 1)]
-    found += [(word, near, far) for word in ("settled", "best") for near, far in ((BEST, BOTH), (BOTH, BEST), (NONE,
-        BEST))]
+    pairs = ((BEST, BOTH), (BOTH, BEST), (NONE, BEST))
+    found += [(word, near, far) for word in ("settled", "best") for near, far in pairs]
     return found + [("picks", chooser) for chooser in every_chooser(2)[::5]]
 
 
@@ -36,8 +36,8 @@ def great_questions():
     found = [("picks", TWO), ("takes", TWO, 1), ("settled", LEAST, GREATEST), ("best", GREATEST, LEAST)]
     found += [("settled", LENDERS, TAKERS), ("best", LENDERS, TAKERS), ("picks", LENDERS), ("takes", TAKERS, 3)]
     found += [("picks", chooser) for chooser in three + four] + [("picks", every_chooser(3)[2222])]
-    return found + [("settled", three[0], three[1]), ("best", three[2], three[3]), ("settled", *four[:2]), ("best",
-        *four[2:])]
+    found += [("settled", three[0], three[1]), ("best", three[2], three[3])]
+    return found + [("settled", *four[:2]), ("best", *four[2:])]
 
 
 def cases(seed):
@@ -188,8 +188,8 @@ class OnePapersTest(unittest.TestCase):
     def test_any_value_as_paper(self):
         one = Trade((1, 1), (0,))
         for question, trade, first, second in (
-                (PICKS, one, ((0, 1),), ((0, 1),)), (PICKS, U, A, B), (("picks", NONE), Trade((1, 1), ()), (), ((0,
-                1),)),
+                (PICKS, one, ((0, 1),), ((0, 1),)), (PICKS, U, A, B),
+                (("picks", NONE), Trade((1, 1), ()), (), ((0, 1),)),
                 (("takes", BEST, 1), one, (), ((0, 1),)), (("settled", BEST, BOTH), one, ((1, 1),), ((0, 1), (1, 1))),
         ):
             paper = judge_one(question, trade, first, second)

@@ -43,8 +43,8 @@ def right_question(thing):
 def bad_questions():
     values = any_values() + [worse for question in questions()[:8] for worse in spoilt(question)]
     values += [worse for worse in spoilt(("settled", BEST, BOTH))]
-    values += [("settled", BEST, TWO), ("best", LENDERS, TWO), ("takes", BEST, 2), ("takes", BEST, -1), ("takes",
-        BEST, True)]
+    values += [("settled", BEST, TWO), ("best", LENDERS, TWO)]
+    values += [("takes", BEST, 2), ("takes", BEST, -1), ("takes", BEST, True)]
     values += [("settled", NOT_APART, BEST), ("best", BEST, NOT_APART), ("takes", T, 0), ("picks", U), list(PICKS)]
     return [value for value in values if not right_question(value)]
 

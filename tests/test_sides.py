@@ -103,9 +103,8 @@ class SidesTest(unittest.TestCase):
 
     def test_any_value_as_paper(self):
         for near, far, standing, part in (
-                (LEAST, GREATEST, ALL, (0, 1)), (LEAST, LEAST, (0, 1, 2), (2,)), (LEAST, LEAST, ALL, (0,)), (NONE,
-                BEST, (0, 1), (0,)),
-                (BOTH, BOTH, (1,), ()), (BOTH, BOTH, (0, 1), ()),
+                (LEAST, GREATEST, ALL, (0, 1)), (LEAST, LEAST, (0, 1, 2), (2,)), (LEAST, LEAST, ALL, (0,)),
+                (NONE, BEST, (0, 1), (0,)), (BOTH, BOTH, (1,), ()), (BOTH, BOTH, (0, 1), ()),
         ):
             right = papers_of(near, far, standing, part)
             for thing in any_values() + right + [worse for paper in right for worse in spoilt(paper)]:

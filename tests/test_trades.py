@@ -116,8 +116,8 @@ class TradeTextTest(unittest.TestCase):
             for worse in (
                     "", "offer", "offer 2", "offer 0 firm", "offer 100 firm", "offer 02 firm", "offer  2 firm",
                     "offer 2 firm ", " offer 2 firm", "offer 2 Firm", "offer firm 2", "offer -1 firm",
-                    "offer 2 firm firm",
-                    "offer +2 loose", "2 firm", "offer 2 loosefirm", "offer x firm", "trade 2", "offer 2firm",
+                    "offer 2 firm firm", "offer +2 loose", "2 firm", "offer 2 loosefirm", "offer x firm",
+                    "trade 2", "offer 2firm",
             ):
                 text = "\n".join(lines[:at] + [worse] + lines[at + 1:])
                 refused(self, BadText, {"line": at + 1}, Trade.read, text)
@@ -193,8 +193,8 @@ class StreamTextTest(unittest.TestCase):
                 refused(self, BadText, {"line": 0}, stream_read, trade=U, text=value)
         for text in (
                 "", " ", "+0  .", "+0 .  ", " +0", "+0 ", "+2", "-0", "+00", "+01", "-2", "+", "-", ". 0", "0 .",
-                "0 0", "00",
-                "+0.", "..", "+0\n.", "+ 0", "+-1", "+0 . -1 x", "-1 -0", "come 0", "+10", "\n", "0\n", "1", "+0,.",
+                "0 0", "00", "+0.", "..", "+0\n.", "+ 0", "+-1", "+0 . -1 x", "-1 -0", "come 0", "+10", "\n",
+                "0\n", "1", "+0,.",
         ):
             refused(self, BadText, {"line": 0}, stream_read, U, text)
         refused(self, BadText, {"line": 0}, stream_read, T, "-1")
@@ -214,8 +214,8 @@ class StreamTextTest(unittest.TestCase):
 
 class DatedTest(unittest.TestCase):
     def test_put_together(self):
-        self.assertEqual(called(self, put_together, ((0, 1), (2, 3)), ((0, 2), (1, 1), (2, 1))), ((0, 2), (1, 1), (2,
-            3)))
+        one, other = ((0, 1), (2, 3)), ((0, 2), (1, 1), (2, 1))
+        self.assertEqual(called(self, put_together, one, other), ((0, 2), (1, 1), (2, 3)))
         chance = random.Random(34)
         trade = random_trade(chance, 5)
         for _ in range(60):
