@@ -110,13 +110,21 @@ def class_numbers(question, trade):
     """For each dated set within a trade the number of its class: those that are one for a question."""
     answers = answers_to(question)
     steps = steps_of(trade)
-    numbers = numbered({dated: answers[offers_of(dated)] for dated in steps})
+    return parted(numbered({dated: answers[offers_of(dated)] for dated in steps}), steps)
+
+
+def parted(numbers, steps):
+    """For each state the number of its class: deeds lead all states of a class to those of one class.
+
+    Classes come of those that are passed, which are parted by where deeds lead till nothing is
+    parted any more (E. Moore).
+    """
     many = 0
-    # Classes are parted by where deeds lead till nothing is parted any more (E. Moore).
     while many < len(set(list(numbers.values()))):
         many = len(set(list(numbers.values())))
-        rows = {dated: (numbers[dated], *[numbers[found] for found in steps[dated]]) for dated in steps}
-        numbers = numbered(rows)
+        numbers = numbered({
+            state: (numbers[state], *[numbers[found] for found in steps[state]]) for state in steps
+        })
     return numbers
 
 

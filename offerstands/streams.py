@@ -1,7 +1,7 @@
 """What stands behind streams, and what is picked there ([2.2], [2.3])."""
 
 from offerstands.trades import aged, offers_of, require_dated, require_stream
-from offerstands.values import require_equal_offers
+from offerstands.values import first_walks, require_equal_offers
 
 
 def stands(trade, stream, *, start=()):
@@ -59,19 +59,9 @@ def search(trade, deeds, starts, is_wanted):
     What is met is a tuple with what stands behind a stream from each of the starts on; a function
     tells whether it is wanted. The stream is None if nothing that can be met is.
     """
-    met = {starts: True}
-    rows = [(starts, ())]
-    if is_wanted(starts):
-        return ((), list(met))
-    while rows:
-        further = []
-        for state, stream in rows:
-            for deed in deeds:
-                found = tuple([behind(trade, dated, deed) for dated in state])
-                if found not in met:
-                    met[found] = True
-                    further.append((found, (*stream, deed)))
-                    if is_wanted(found):
-                        return (further[-1][1], list(met))
-        rows = further
-    return (None, list(met))
+    stream, walks = first_walks(
+        starts,
+        lambda state: [(deed, tuple([behind(trade, dated, deed) for dated in state])) for deed in deeds],
+        is_wanted,
+    )
+    return (stream, list(walks))

@@ -66,3 +66,55 @@ def require_last(lines, number):
     """Raise BadText if there is a line behind the one with a number."""
     if number < len(lines):
         raise BadText(number + 1)
+
+
+def is_alike(one, other):
+    """Whether two values are equal, and of the same kind part by part."""
+    if one != other:
+        return False
+    # Python takes True for 1, within tuples, lists and dicts, too.
+    if isinstance(one, (tuple, list)):
+        return all([is_alike(part, further) for part, further in zip(one, other)])
+    if isinstance(one, dict):
+        return are_dicts_alike(one, other)
+    return isinstance(one, bool) == isinstance(other, bool)
+
+
+def are_dicts_alike(one, other):
+    """Whether the keys and the values of two equal dicts are of the same kinds."""
+    keys = list(other)
+    for at, key in enumerate(one):
+        is_there = is_alike(key, keys[at]) or any([is_alike(key, further) for further in keys])
+        if not is_there or not is_alike(one[key], other[key]):
+            return False
+    return True
+
+
+def all_walks(start, steps_from):
+    """The first walk to each state that can be met, a dict in the order of these walks."""
+    _, walks = first_walks(start, steps_from, lambda state: False)
+    return walks
+
+
+def first_walks(start, steps_from, is_wanted):
+    """The first walk to each state, in order, up to the first state that is wanted.
+
+    A function tells of a state the pairs of a step and the state that it leads to, steps ascending;
+    a walk is a tuple of steps. What comes is the walk to what is wanted, None if it is not met, and
+    a dict with the walks to all states that were met.
+    """
+    walks = {start: ()}
+    met = [start]
+    if is_wanted(start):
+        return ((), walks)
+    at = 0
+    while at < len(met):
+        here = met[at]
+        for step, state in steps_from(here):
+            if state not in walks:
+                walks[state] = (*walks[here], step)
+                met.append(state)
+                if is_wanted(state):
+                    return (walks[state], walks)
+        at += 1
+    return (None, walks)

@@ -1,8 +1,10 @@
-"""What the document says of part 1 and part 2, word by word and slowly, to compare the program with."""
+"""What the document says, word by word and slowly, to compare the program with."""
 
-from itertools import combinations
+from itertools import combinations, product
 
 from samples import deeds_of_trade, every_dated, streams_in_order
+
+from offerstands.choosers import Chooser
 
 
 def sets_of(offers):
@@ -227,3 +229,42 @@ def answer_to(question, some):
         return question[2] in picks_of(question[1])[some]
     ask = settled_sets if question[0] == "settled" else best_settled
     return ask(question[1], question[2], some)
+
+
+def rows_of(items, many):
+    """All tuples of so many of the items."""
+    return list(product(items, repeat=many))
+
+
+def every_of(offers):
+    """The chooser that takes all of each set."""
+    return Chooser(offers, tuple(sets_of(offers)))
+
+
+def presses(near, far, standing, part):
+    """What comes of each offer that can be pressed into an agreed part."""
+    found = {}
+    for x in standing:
+        if is_wished(near, part, x) and is_wished(far, part, x):
+            whole = union(part, (x,))
+            found[x] = tuple(sorted(set(picks_of(near)[whole]) & set(picks_of(far)[whole])))
+    return found
+
+
+def pressed_in(near, far, standing, part, offers):
+    """What comes of any values, one behind the other; None where one cannot be pressed in."""
+    for x in offers:
+        if type(x) is not int or x not in presses(near, far, standing, part):
+            return None
+        part = presses(near, far, standing, part)[x]
+    return part
+
+
+def parts_behind(near, far, standing, part):
+    met, rows = {part}, [part]
+    while rows:
+        for found in presses(near, far, standing, rows.pop()).values():
+            if found not in met:
+                met.add(found)
+                rows.append(found)
+    return tuple(sorted(met, key=lambda some: (len(some), some)))

@@ -50,6 +50,14 @@ def any_values():
         ("left", 0, "near"), ("left", [], {}), ("wished", 0), ("wished", True), ("wished", [0]), ("wished", None),
         ("one", ()), ("one", []), ("one", (((), ()),)), ("one", ([(), ()],)), ("one", ((),)), ("unlike", ()),
         ("unlike", (("day",),)), ("unlike", None),
+        ("tells", ()), ("tells", []), ("tells", ((0, ()),)), ("tells", ((False, ()),)), ("tells", ([0, ()],)),
+        ("tells", ((0,),)), ("fails", ()), ("fails", (("day",),)), ("fails", None), ("within", ()), ("within", ((),)),
+        ("within", (((),),)), ("within", ([()],)), ("within", [((),)]), ("beyond", ()), ("beyond", (("come", 0),)),
+        ("beyond", []), ("sure",), ("vain",), ["sure"], ("sure", ()), ("vain", 0), ("open", (), ()),
+        ("open", (0,), ()), ("open", (True,), ()), ("open", [0], []), ("open", None, {}), ("chain", ()),
+        ("chain", (0,)), ("chain", (True,)), ("chain", [0]), ("chain", 0), ("chain", ("come", None)), ("closed", ()),
+        ("closed", ((),)), ("closed", [()]), ("closed", ((0,), (True,))), ("closed", ({},)), (((0,),), (None,)),
+        (((0, 0, 0),), ((),)), [((0, 0, 0),), ((),)], (((False, 0, 0),), ((),)), (((0, 0, 0, 0),), ((),)),
         BEST, TWO, T, NOT_APART, (BEST,), (BEST, T), errors.BadSet(0), errors.OtherOffers(),
         ("picks", BEST), ("picks", T), ("picks", 0), ("picks",), ["picks", BEST], ("picks", BEST, 0),
         ("takes", BEST, 2),
@@ -74,14 +82,14 @@ def is_same(one, other):
     return freeze(one) == freeze(other)
 
 
-def called(test, function, *values):
+def called(test, function, *values, **named):
     """The result of a call by position; the same by name, and again, and nothing is changed."""
-    before = freeze(values)
-    result = function(*values)
+    before = freeze((values, named))
+    result = function(*values, **named)
     names = list(inspect.signature(function).parameters)
-    test.assertTrue(is_same(result, function(**dict(zip(names, values)))), (function, values))
-    test.assertTrue(is_same(result, function(*values)), (function, values))
-    test.assertEqual(freeze(values), before)
+    test.assertTrue(is_same(result, function(**dict(zip(names, values)), **named)), (function, values))
+    test.assertTrue(is_same(result, function(*values, **named)), (function, values))
+    test.assertEqual(freeze((values, named)), before)
     return result
 
 

@@ -53,6 +53,38 @@ FUNCTIONS = {
         "judge_one(question, trade, one, other)", "one_holds(question, trade, one, other, thing)",
         "is_told_by(question, other, trade)", "first_untold(question, other, trade)",
     ],
+    "notebooks": [
+        "is_notebook(trade, thing)", "note_behind(trade, notebook, stream)",
+        "least_notebook(question, trade, *, most=400)", "note_of(question, trade, dated)",
+        "first_stream_to(question, trade, number)", "does_tell(question, trade, notebook)",
+        "judge_notebook(question, trade, notebook)", "notebook_holds(question, trade, notebook, thing)",
+        "shortened(trade, notebook)",
+    ],
+    "summaries": [
+        "is_summary(question, trade, dated, thing)", "least_summaries(question, trade, dated)",
+        "free_offers(question, trade, dated)",
+    ],
+    "shelves": [
+        "is_calendar(trade, thing)", "does_keep(trade, calendar, stream)",
+        "spots(chooser, trade, calendar, *, most=400)", "shelf(chooser, trade, calendar, worths, *, most=400)",
+        "first_greatest(chooser, trade, calendar, worths, *, most=400)",
+        "judge_shelf(chooser, trade, calendar, worths, number, *, most=400)",
+        "shelf_holds(chooser, trade, calendar, worths, number, thing)", "turns(chooser, trade, calendar)",
+        "fewest_days(chooser, trade, calendar, dated, *, most=400)",
+    ],
+    "sure": [
+        "judge_sure(near, far, standing, offer)", "sure_holds(near, far, standing, offer, thing)",
+        "sure_offers(near, far, standing)", "vain_offers(near, far, standing)",
+    ],
+    "shrinking": ["does_shrink(chooser)", "first_shrinking(chooser)"],
+    "pressing": [
+        "pressable(near, far, standing, part)", "pressed(near, far, standing, part, offer)",
+        "pressed_all(near, far, standing, part, offers)", "parts_behind(near, far, standing, part)",
+    ],
+    "chains": [
+        "first_chain(near, far, standing, part)", "chain_ends(near, far, standing, part)",
+        "judge_chain(near, far, standing, part)", "chain_holds(near, far, standing, part, thing)",
+    ],
 }
 CLASSES = {
     "choosers": {"Chooser": {

@@ -247,8 +247,16 @@ class ExpressionsTest(unittest.TestCase):
                 place = node.parent
                 looped = isinstance(place, (ast.For, ast.comprehension)) and place.iter is node
                 taken = is_call_of(place, ("list", "tuple", "dict", "sorted", "sum", "enumerate", "zip"))
+                taken = taken and place.args[0] is node
                 ranged = is_call_of(node, ("range",)) and is_call_of(place, ("len", "reversed", "combinations"))
                 self.assertTrue(looped or taken or ranged, (name, node.lineno))
+
+    def test_lambdas_on_one_line_have_other_parameters(self):
+        met = {}
+        for name, node in self.each(ast.Lambda):
+            key = (name, node.lineno, tuple([part.arg for part in node.args.args]))
+            self.assertNotIn(key, met)
+            met[key] = True
 
     def test_loops_do_not_change_what_they_go_over(self):
         changes = ("append", "extend", "pop", "insert", "remove", "clear", "update", "setdefault", "reverse")
