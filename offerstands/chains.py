@@ -1,10 +1,9 @@
 """Chains of presses that end in settled sets ([6.2])."""
 
-from offerstands.choosers import is_set, is_within
 from offerstands.pressing import (
-    is_pressable, parts_behind, press, presses_from, presses_to_parts, require_agreed,
+    is_agreed_part, parts_behind, pressed_by, presses_from, presses_to_parts, require_agreed,
 )
-from offerstands.sides import do_agree, wished_of
+from offerstands.sides import wished_of
 from offerstands.values import is_ascending, is_paper
 
 
@@ -44,20 +43,14 @@ def chain_holds(near, far, standing, part, thing):
 
 def is_chain(near, far, standing, part, items):
     """Whether any values can be pressed in one behind the other, up to a settled set."""
-    for item in items:
-        if not is_pressable(near, far, standing, part, item):
-            return False
-        part = press(near, far, part, item)
-    return len(wished_of(near, far, standing, part)) == 0
+    end = pressed_by(near, far, standing, part, items)
+    return end is not None and len(wished_of(near, far, standing, end)) == 0
 
 
 def are_agreed_parts(near, far, standing, thing):
     """Whether any value is an ascending tuple of agreed parts of what stands."""
-    if not isinstance(thing, tuple):
+    if not isinstance(thing, tuple) or not all([is_agreed_part(near, far, standing, item) for item in thing]):
         return False
-    for item in thing:
-        if not is_set(near.offers, item) or not is_within(item, standing) or not do_agree(near, far, item):
-            return False
     return is_ascending(thing)
 
 

@@ -1,6 +1,6 @@
 """Offers that are pressed into what both sides agree to ([6.1])."""
 
-from offerstands.choosers import together
+from offerstands.choosers import is_set, is_within, together
 from offerstands.errors import BadSet, NotWished
 from offerstands.sides import do_agree, require_part, wished_of
 from offerstands.values import all_walks, in_order, is_integer
@@ -43,6 +43,20 @@ def require_agreed(near, far, standing, part):
 def is_pressable(near, far, standing, part, thing):
     """Whether any value is an offer that can be pressed into an agreed part."""
     return is_integer(thing) and thing in wished_of(near, far, standing, part)
+
+
+def pressed_by(near, far, standing, part, items):
+    """What comes of any values that are pressed in one behind the other, None where one cannot be."""
+    for item in items:
+        if not is_pressable(near, far, standing, part, item):
+            return None
+        part = press(near, far, part, item)
+    return part
+
+
+def is_agreed_part(near, far, standing, thing):
+    """Whether any value is an agreed part of what stands."""
+    return is_set(near.offers, thing) and is_within(thing, standing) and do_agree(near, far, thing)
 
 
 def press(near, far, part, offer):

@@ -268,3 +268,41 @@ def parts_behind(near, far, standing, part):
                 met.add(found)
                 rows.append(found)
     return tuple(sorted(met, key=lambda some: (len(some), some)))
+
+
+def stand_in(dated):
+    return tuple(offer for offer, _ in dated)
+
+
+def positions(near, far, trade):
+    return sorted(
+        (dated, kept) for dated in every_dated(trade) for kept in settled_sets(near, far, stand_in(dated))
+    )
+
+
+def settler_moves(near, far, trade, position, deed):
+    dated = after(trade, position[0], deed)
+    return [(dated, kept) for kept in sorted(settled_sets(near, far, stand_in(dated)))]
+
+
+def broken(position, following):
+    return tuple(x for x in position[1] if x in stand_in(following[0]) and x not in following[1])
+
+
+def pledges(near, far, trade):
+    return sorted(
+        (dated, kept) for dated in every_dated(trade)
+        for kept in parts_of(stand_in(dated)) if is_agreed(near, far, kept)
+    )
+
+
+def waiting(near, far, pledge):
+    dated, kept = pledge
+    return tuple(x for x in stand_in(dated) if is_wished(near, kept, x) and is_wished(far, kept, x))
+
+
+def keeper_turns(near, far, trade, pledge, deed):
+    dated = after(trade, pledge[0], deed)
+    left = set(pledge[1]) & set(stand_in(dated))
+    rows = [part for part in parts_of(stand_in(dated)) if left <= set(part) and is_agreed(near, far, part)]
+    return [(dated, kept) for kept in sorted(rows)]

@@ -8,6 +8,7 @@ from offerstands import errors
 from offerstands.choosers import Chooser, all_sets
 from offerstands.lists import by_lists
 from offerstands.making import either_of, first_some, in_turn, leaving_out
+from offerstands.settlers import Settler
 from offerstands.trades import Trade
 
 TWO = by_lists(3, ((0, 1, 2), (2, 1)))
@@ -22,6 +23,7 @@ GREATEST = by_lists(3, ((2, 1, 0),))
 EVERY = by_lists(3, ((0,), (1,), (2,)))
 LENDERS = by_lists(4, ((1, 0), (3, 2)))
 TAKERS = by_lists(4, ((0, 3), (2, 1)))
+SETTLER = Settler(BEST, BOTH, Trade((1, 1), ()))
 
 
 def deep(value, levels):
@@ -58,7 +60,16 @@ def any_values():
         ("chain", (0,)), ("chain", (True,)), ("chain", [0]), ("chain", 0), ("chain", ("come", None)), ("closed", ()),
         ("closed", ((),)), ("closed", [()]), ("closed", ((0,), (True,))), ("closed", ({},)), (((0,),), (None,)),
         (((0, 0, 0),), ((),)), [((0, 0, 0),), ((),)], (((False, 0, 0),), ((),)), (((0, 0, 0, 0),), ((),)),
-        BEST, TWO, T, NOT_APART, (BEST,), (BEST, T), errors.BadSet(0), errors.OtherOffers(),
+        ("ranks", ()), ("ranks", []), ("ranks", (((), 0),)), ("ranks", (((), False),)), ("ranks", ([(), 0],)),
+        ("ranks", (((0,), 0), ((1,), 1))), ("ring", (), ()), ("ring", (), (0,)), ("ring", (True,), (0,)), ("ring", [], []),
+        ("ring", None, (0,)), ("ring", (0,)), ("ring", (), ([],)), ("calm", ()), ("calm", []), ("calm", (((), (), 0),)),
+        ("calm", (((), (), False),)), ("calm", (((), (), -1),)), ("calm", ([(), (), 0],)), ("calm", (((), 0),)),
+        ("restless", ()), ("restless", (((), (), ("day",), 0),)), ("restless", (((), (), ["day"], 0),)),
+        ("restless", (((), (), ("day",), 10 ** 39),)), ("restless", (((), (), 0),)), ("plan", ()), ("plan", []),
+        ("plan", (((), ()),)), ("plan", ([(), ()],)), ("plan", (((),),)), ("barred", ()),
+        ("barred", (((), (), 0, ("day",)),)), ("barred", (((), (), True, ("day",)),)), ("barred", (((), (), 0),)),
+        ("barred", (((), (), 0, None),)), ((), ()), [(), ()], (((0, 1),), (0,)), (((0, 1),), (True,)), (((0, 1),), (1,)),
+        SETTLER, (SETTLER,), BEST, TWO, T, NOT_APART, (BEST,), (BEST, T), errors.BadSet(0), errors.OtherOffers(),
         ("picks", BEST), ("picks", T), ("picks", 0), ("picks",), ["picks", BEST], ("picks", BEST, 0),
         ("takes", BEST, 2),
         ("takes", BEST, True), ("takes", BEST), ("takes", 0, BEST), ("settled", BEST, TWO), ("settled", BEST),

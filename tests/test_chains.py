@@ -152,10 +152,10 @@ class ChainPapersTest(unittest.TestCase):
             self.assertIs(chain_holds(near, far, standing, part, ("closed", needed[::-1])), False)
             self.assertIs(chain_holds(near, far, standing, part, ("closed", list(needed))), False)
             self.assertIs(chain_holds(far, near, standing, part, ("closed", every)), True)
-        for part in agreed_parts(near, far, standing):
+        for part in naive.parts_of(standing):
             more = tuple(sorted({*every, part}))
-            told = is_closed(near, far, standing, part, more)
-            self.assertIs(chain_holds(near, far, standing, part, ("closed", more)), told)
+            self.assertIs(is_closed(near, far, standing, lost[0], more), part in every)
+            self.assertIs(chain_holds(near, far, standing, lost[0], ("closed", more)), part in every)
         # In order, as part 6 tells other rows, is another order than ascending.
         self.assertNotEqual(every, tuple(sorted(every, key=lambda some: (len(some), some))))
         in_order = tuple(sorted(every, key=lambda some: (len(some), some)))

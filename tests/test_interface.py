@@ -85,6 +85,35 @@ FUNCTIONS = {
         "first_chain(near, far, standing, part)", "chain_ends(near, far, standing, part)",
         "judge_chain(near, far, standing, part)", "chain_holds(near, far, standing, part, thing)",
     ],
+    "rings": [
+        "does_go_round(near, far, standing, part)", "longest_chain(near, far, standing, part)",
+        "judge_ends(near, far, standing, part)", "ends_hold(near, far, standing, part, thing)",
+    ],
+    "changes": [
+        "with_offer(near, far, standing, part, offer)", "without_offer(near, far, standing, part, offer)",
+        "is_touched(near, far, standing, part, offer)",
+    ],
+    "positions": [
+        "is_position(near, far, trade, thing)", "positions_of(near, far, trade, *, most=400)",
+        "settler_moves(near, far, trade, position, deed)", "broken_by(position, following)",
+        "is_course(near, far, trade, stream, thing)", "broken_along(trade, stream, course)",
+        "fewest_broken(near, far, trade, stream)", "first_course(near, far, trade, stream)",
+    ],
+    "means": [
+        "mean_broken(near, far, trade, *, most=400)", "judge_mean(near, far, trade, fraction, *, most=400)",
+        "restless_cells(near, far, trade, fraction, *, most=400)", "mean_holds(near, far, trade, fraction, thing)",
+    ],
+    "waits": [
+        "is_pledge(near, far, trade, thing)", "pledges_of(near, far, trade, *, most=400)",
+        "waiting_in(near, far, pledge)", "keeper_turns(near, far, trade, pledge, deed)",
+        "is_keeping(near, far, trade, stream, thing)", "burden_of(near, far, trade, stream, keeping)",
+        "least_burden(near, far, trade, stream)", "first_keeping(near, far, trade, stream)",
+    ],
+    "plans": [
+        "least_waiting(near, far, trade, *, most=400)", "judge_waiting(near, far, trade, number, *, most=400)",
+        "waiting_holds(near, far, trade, number, thing)", "fewest_deeds(near, far, trade, number, *, most=400)",
+        "greatest_plan(near, far, trade, number, *, most=400)",
+    ],
 }
 CLASSES = {
     "choosers": {"Chooser": {
@@ -95,7 +124,9 @@ CLASSES = {
         "__init__": "(self, lives, loose)", "__len__": "(self)", "__eq__": "(self, other)", "__str__": "(self)",
         "read": "(cls, text)",
     }},
+    "settlers": {"Settler": {"__init__": "(self, near, far, trade)", "take": "(self, deed)", "undo": "(self)"}},
 }
+PROPERTIES = {"settlers": {"Settler": ["stood", "kept_now", "broken_so_far", "deeds_done"]}}
 
 
 def module(name):
@@ -121,6 +152,12 @@ class InterfaceTest(unittest.TestCase):
                     self.assertEqual(isinstance(there, classmethod), told.startswith("(cls"))
                     plain = there.__func__ if isinstance(there, classmethod) else there
                     self.assertEqual(str(inspect.signature(plain)), told)
+
+    def test_properties(self):
+        for name, classes in PROPERTIES.items():
+            for word, told in classes.items():
+                for row in told:
+                    self.assertIsInstance(vars(getattr(module(name), word))[row], property)
 
     def test_names_that_begin_with_a_question_tell_true_or_false(self):
         words = ("is_", "are_", "can_", "does_")

@@ -179,7 +179,7 @@ class NamesTest(unittest.TestCase):
         for name, tree in trees().items():
             for node in ast.walk(tree):
                 if isinstance(node, ast.FunctionDef) and node.decorator_list:
-                    self.assertEqual([word.id for word in node.decorator_list], ["classmethod"], name)
+                    self.assertIn([word.id for word in node.decorator_list], (["classmethod"], ["property"]), name)
                 if isinstance(node, ast.ClassDef):
                     self.assertFalse(node.decorator_list or node.keywords, name)
                     self.assertLessEqual(len(node.bases), 1, name)
@@ -261,6 +261,9 @@ class ExpressionsTest(unittest.TestCase):
     def test_loops_do_not_change_what_they_go_over(self):
         changes = ("append", "extend", "pop", "insert", "remove", "clear", "update", "setdefault", "reverse")
         for name, node in self.each(ast.For):
+            # What list(..) gives is another list.
+            if is_call_of(node.iter, ("list",)):
+                continue
             over = {part.id for part in ast.walk(node.iter) if isinstance(part, ast.Name)}
             for part in [inner for row in node.body for inner in ast.walk(row)]:
                 if isinstance(part, ast.Attribute) and part.attr in changes and isinstance(part.value, ast.Name):
