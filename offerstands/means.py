@@ -23,10 +23,7 @@ def judge_mean(near, far, trade, fraction, *, most=400):
     if is_below(fraction, mean):
         return ("restless", restless_rows(moves, deeds, fraction))
     # What is enough for the mean is enough for more; whole parts of numbers do, as all else is whole.
-    rows = [
-        (*position, numbers[position] * fraction[1] // mean[1])
-        for position in numbers if numbers[position] is not None
-    ]
+    rows = [(*position, numbers[position] * fraction[1] // mean[1]) for position in numbers]
     return ("calm", tuple(sorted(rows)))
 
 
@@ -56,20 +53,14 @@ def calm_moves(near, far, trade):
     moves = all_moves(trade, settled, every_position(trade, settled))
     (_, bottom), numbers, _ = solved(moves)
     return {
-        position: {
-            deed: calmest(moves[position][deed], numbers, bottom) for deed in moves[position]
-        }
-        for position in moves if numbers[position] is not None
+        position: {deed: calmest(moves[position][deed], numbers, bottom) for deed in moves[position]}
+        for position in moves
     }
 
 
 def calmest(rows, numbers, bottom):
     """The least of the moves that need the least number."""
-    found = [
-        (numbers[following] + bottom * many, following)
-        for following, many in rows if numbers[following] is not None
-    ]
-    return min(found)[1]
+    return min([(numbers[following] + bottom * many, following) for following, many in rows])[1]
 
 
 def few_moves(near, far, trade, most):
@@ -102,7 +93,8 @@ def solved(moves):
     """The mean, the least numbers of calm cells for it, and deeds by which no less is broken.
 
     The fraction grows from 0 on: as long as deeds force more than it, the least mean that is broken
-    by these deeds is the next one.
+    by these deeds is the next one. For the mean each position has a number: by whatever is kept,
+    a settler can go over to what is kept from the beginning on.
     """
     mean = (0, 1)
     deeds = {position: ("day",) for position in moves}
@@ -175,7 +167,7 @@ def least_round(moves, deeds):
     least = None
     for position in rows[last]:
         greatest = None
-        for many in [many for many in range(last) if position in rows[many]]:
+        for many in [at for at in range(last) if position in rows[at]]:
             mean = (rows[last][position] - rows[many][position], last - many)
             if greatest is None or is_below(greatest, mean):
                 greatest = mean

@@ -88,7 +88,7 @@ def least_ranks(turns, waiting, number):
     while many < len(barring):
         many = len(barring)
         found = {}
-        for pledge in [pledge for pledge in turns if pledge not in barring]:
+        for pledge in [row for row in turns if row not in barring]:
             deeds = [
                 deed for deed in turns[pledge]
                 if all([waiting[other] > number or other in barring for other in turns[pledge][deed]])

@@ -54,7 +54,6 @@ def is_course(near, far, trade, stream, thing):
 
 def broken_along(trade, stream, course):
     """How many loans a course breaks."""
-    require_stream(trade, stream)
     positions = list(zip(moments(trade, stream), [(), *course]))
     return sum([len(broken_by(one, other)) for one, other in zip(positions, positions[1:])])
 
@@ -111,7 +110,6 @@ def every_position(trade, settled):
 def fewest_ahead(near, far, trade, stream):
     """For each moment of a stream the positions there, with how few loans can be broken from then on."""
     require_house(near, far, trade)
-    require_stream(trade, stream)
     settled = settled_table(near, far)
     ahead = []
     for dated in reversed(moments(trade, stream)):

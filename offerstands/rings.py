@@ -11,13 +11,11 @@ def does_go_round(near, far, standing, part):
 
 def longest_chain(near, far, standing, part):
     """How many offers can be pressed in at most, None if presses go round."""
-    require_agreed(near, far, standing, part)
     return ranks_behind(near, far, standing, part).get(part)
 
 
 def judge_ends(near, far, standing, part):
     """A paper: ranks that become less by each press, or offers by which presses go round."""
-    require_agreed(near, far, standing, part)
     ranks = ranks_behind(near, far, standing, part)
     if part in ranks:
         return ("ranks", tuple(sorted([(some, ranks[some]) for some in ranks])))
@@ -36,7 +34,10 @@ def ends_hold(near, far, standing, part, thing):
 
 
 def ranks_behind(near, far, standing, part):
-    """How many offers can be pressed in at most, for each part that comes and has no round behind it."""
+    """How many offers can be pressed in at most, for each part that comes and has no round behind it.
+
+    Raise OtherOffers, or BadSet also for a part that is not agreed.
+    """
     following = {
         some: [found for _, found in presses_from(near, far, standing, some)]
         for some in parts_behind(near, far, standing, part)

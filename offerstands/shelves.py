@@ -150,7 +150,7 @@ def steps_from_spot(chooser, trade, calendar, spot):
     """The pairs of a deed that the calendar lets and the spot behind it, deeds ascending."""
     index, stood = spot
     rows = []
-    for deed in [deed for deed in all_deeds(trade) if is_let(calendar, index, deed)]:
+    for deed in [each for each in all_deeds(trade) if is_let(calendar, index, each)]:
         later = (index + 1) % len(calendar) if deed == ("day",) else index
         rows.append((deed, (later, skyline_behind(chooser, trade, stood, deed))))
     return rows

@@ -54,7 +54,6 @@ def is_keeping(near, far, trade, stream, thing):
 def burden_of(near, far, trade, stream, keeping):
     """The most offers that wait at once in a keeping."""
     require_house(near, far, trade)
-    require_stream(trade, stream)
     pledges = list(zip(moments(trade, stream), [(), *keeping]))
     return max([len(waiting_in(near, far, pledge)) for pledge in pledges])
 
@@ -101,7 +100,6 @@ def turns_by(trade, agreed, pledge, deed):
 def burdens_ahead(near, far, trade, stream):
     """For each moment of a stream the pledges there, with the least that waits at once there and from then on."""
     require_house(near, far, trade)
-    require_stream(trade, stream)
     agreed = agreed_table(near, far)
     ahead = []
     for dated in reversed(moments(trade, stream)):

@@ -79,6 +79,11 @@ def all_houses(seed):
     for _ in range(3):
         near, far = random_choosers(4, 2, chance.randrange(10 ** 6))
         found.append((near, far, random_trade(chance, 4, 1)))
+    # Deeds force loans to be broken there, by which some positions come to greater means than others.
+    for hard, lives, loose in (
+            (837562398, (2, 1, 1, 2), ()), (854611199, (1, 2, 1, 2), (0, 1, 2, 3)), (974851282, (1, 1, 2, 1), (3,)),
+    ):
+        found.append((*random_choosers(4, 2, hard), Trade(lives, loose)))
     return found + [(LENDERS, TAKERS, Trade((1, 1, 1, 1), (0, 2))), (LENDERS, TAKERS, Trade((1, 1, 1, 1), ()))]
 
 
@@ -225,6 +230,14 @@ class MeanPapersTest(unittest.TestCase):
         cells = tuple(sorted(CELLS + ((((0, 1),), (0,), ("day",), 9), (((1, 1),), (1,), ("day",), 9))))
         self.assertTrue(right_restless(BEST, BOTH, U, (1, 2), cells))
         self.assertIs(mean_holds(BEST, BOTH, U, (1, 2), ("restless", cells)), True)
+
+    def test_what_is_kept_is_settled_in_each_cell(self):
+        calm = judge_mean(BEST, BOTH, U, (1, 2))[1]
+        for dated, kept in ((((0, 1),), ()), (((0, 1), (1, 1)), (0,)), (((0, 1), (1, 1)), (0, 1))):
+            more = tuple(sorted(calm + ((dated, kept, GREAT),)))
+            self.assertIs(mean_holds(BEST, BOTH, U, (1, 2), ("calm", more)), False)
+            more = tuple(sorted(CELLS + ((((0, 1),), (0,), ("day",), 9), (dated, kept, ("day",), GREAT))))
+            self.assertIs(mean_holds(BEST, BOTH, U, (1, 2), ("restless", more)), False)
 
     def test_fractions_with_common_divisors(self):
         for times in (1, 2, 3, GREAT):

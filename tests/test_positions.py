@@ -19,6 +19,8 @@ from offerstands.positions import (
 from offerstands.trades import Trade, stream_read
 
 COMES = (("come", 0), ("come", 1))
+# One side has rather 2 than 0 and 1 together, the other one rather these: (2,) and (0, 1) are settled.
+RATHER_ONE, RATHER_TWO = by_lists(3, ((2, 0), (2, 1))), by_lists(3, ((0, 1, 2), (1, 0, 2)))
 SHORT = Trade((1, 1), ())
 FOUR = Trade((1, 2, 1, 1), (2,))
 
@@ -28,6 +30,7 @@ def houses(seed, many=10, longest=2):
     chance = random.Random(seed)
     found = [(BEST, BOTH, trade) for trade in (T, U, SHORT, Trade((2, 1), ()), Trade((1, 3), (0, 1)))]
     found += [(BOTH, BEST, T), (BEST, BEST, U), (BOTH, BOTH, U), (NONE, BOTH, T)]
+    found += [(RATHER_ONE, RATHER_TWO, Trade((1, 2, 1), (0,))), (RATHER_TWO, RATHER_ONE, Trade((1, 1, 1), ()))]
     found += [(LEAST, GREATEST, Trade((1, 2, 1), (0,))), (TWO, EVERY, Trade((1, 1, 2), ())), (LENDERS, TAKERS, FOUR)]
     for _ in range(many):
         offers = chance.choice((1, 2, 3, 3, 4))
