@@ -48,7 +48,7 @@ def mean_holds(near, far, trade, fraction, thing):
 
 
 def calm_moves(near, far, trade):
-    """For each position of calm cells for the mean, and each deed, a move by which cells stay calm."""
+    """For each position and each deed a move by which a settler keeps to the mean."""
     settled = settled_table(near, far)
     moves = all_moves(trade, settled, every_position(trade, settled))
     (_, bottom), numbers, _ = solved(moves)
