@@ -19,14 +19,7 @@ def least_waiting(near, far, trade, *, most=400):
 
 def judge_waiting(near, far, trade, number, *, most=400):
     """A paper: a plan with at most so many waiting, or pledges with least ranks that bar it."""
-    pledges = pledges_of(near, far, trade, most=most)
-    turns = all_turns(near, far, trade, pledges)
-    waiting = many_waiting(near, far, pledges)
-    plan = greatest_rows(turns, waiting, number)
-    if BEGINNING in plan:
-        return ("plan", plan)
-    barring = least_ranks(turns, waiting, number)
-    return ("barred", tuple(sorted([(*pledge, *barring[pledge]) for pledge in barring])))
+    return waiting_paper(near, far, trade, number, pledges_of(near, far, trade, most=most))
 
 
 def waiting_holds(near, far, trade, number, thing):
@@ -51,6 +44,17 @@ def greatest_plan(near, far, trade, number, *, most=400):
     """All pledges that any plan has, ascending."""
     pledges = pledges_of(near, far, trade, most=most)
     return greatest_rows(all_turns(near, far, trade, pledges), many_waiting(near, far, pledges), number)
+
+
+def waiting_paper(near, far, trade, number, pledges):
+    """A paper, by all pledges: a plan with at most so many waiting, or pledges with least ranks that bar it."""
+    turns = all_turns(near, far, trade, pledges)
+    waiting = many_waiting(near, far, pledges)
+    plan = greatest_rows(turns, waiting, number)
+    if BEGINNING in plan:
+        return ("plan", plan)
+    barring = least_ranks(turns, waiting, number)
+    return ("barred", tuple(sorted([(*pledge, *barring[pledge]) for pledge in barring])))
 
 
 def all_turns(near, far, trade, pledges):

@@ -151,9 +151,14 @@ def offers_of(dated):
 
 def all_dated(trade):
     """A list of all dated sets within a trade."""
+    return dated_of(trade, tuple(range(len(trade))))
+
+
+def dated_of(trade, some):
+    """A list of all dated sets within a trade whose offers are in a set."""
     found = [()]
-    for offer, life in enumerate(trade.lives):
-        grown = [(*dated, (offer, days)) for dated in found for days in range(1, life + 1)]
+    for offer in some:
+        grown = [(*dated, (offer, days)) for dated in found for days in range(1, trade.lives[offer] + 1)]
         found = found + grown
     return found
 

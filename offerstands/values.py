@@ -14,6 +14,13 @@ def is_integer_within(thing, low, high):
     return is_integer(thing) and low <= thing <= high
 
 
+def is_fraction(thing):
+    """Whether any value is a pair of an integer from 0 on and one from 1 on."""
+    if not isinstance(thing, tuple) or len(thing) != 2:
+        return False
+    return is_integer(thing[0]) and is_integer(thing[1]) and thing[0] >= 0 and thing[1] >= 1
+
+
 def is_paper(thing, word, size):
     """Whether any value is a tuple of so many items that begins with a word."""
     return isinstance(thing, tuple) and len(thing) == size and thing[0] == word

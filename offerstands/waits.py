@@ -17,12 +17,10 @@ def is_pledge(near, far, trade, thing):
 
 def pledges_of(near, far, trade, *, most=400):
     """All pledges, ascending."""
-    require_house(near, far, trade)
-    agreed = agreed_table(near, far)
-    found = [(dated, kept) for dated in all_dated(trade) for kept in agreed[offers_of(dated)]]
+    found = every_pledge(near, far, trade)
     if len(found) > most:
         raise TooMany(most)
-    return tuple(sorted(found))
+    return found
 
 
 def waiting_in(near, far, pledge):
@@ -82,6 +80,14 @@ def agreed_table(near, far):
         some: [part for part in parts_of(some) if do_agree(near, far, part)]
         for some in all_sets(near.offers)
     }
+
+
+def every_pledge(near, far, trade):
+    """All pledges, ascending, however many; raise OtherOffers."""
+    require_house(near, far, trade)
+    agreed = agreed_table(near, far)
+    found = [(dated, kept) for dated in all_dated(trade) for kept in agreed[offers_of(dated)]]
+    return tuple(sorted(found))
 
 
 def is_word_kept(pledge, following):

@@ -306,3 +306,61 @@ def keeper_turns(near, far, trade, pledge, deed):
     left = set(pledge[1]) & set(stand_in(dated))
     rows = [part for part in parts_of(stand_in(dated)) if left <= set(part) and is_agreed(near, far, part)]
     return [(dated, kept) for kept in sorted(rows)]
+
+
+def views(trade, share):
+    return sorted(dated for dated in every_dated(trade) if set(stand_in(dated)) <= set(share))
+
+
+def view(share, dated):
+    return tuple(pair for pair in dated if pair[0] in share)
+
+
+def told(chooser, trade, word, dated):
+    """What is to be told of a dated set, now or on."""
+    return picks_at(chooser, dated) if word == "now" else skyline(chooser, trade, dated)
+
+
+def slip(shares, office, dated):
+    return tuple(dict(rows)[view(share, dated)] for share, rows in zip(shares, office))
+
+
+def marks_along(shares, relay, dated):
+    marks = [0]
+    for share, table in zip(shares, relay):
+        marks.append(next(after for mark, seen, after in table if (mark, seen) == (marks[-1], view(share, dated))))
+    return tuple(marks[1:])
+
+
+def every_shares(offers):
+    """All shares of so many offers."""
+    rows = [((0,),)] if offers == 1 else []
+    for part in every_shares(offers - 1) if offers > 1 else []:
+        rows += [part[:at] + ((*part[at], offers - 1),) + part[at + 1:] for at in range(len(part))]
+        rows += [part[:at] + ((offers - 1,),) + part[at:] for at in range(len(part) + 1)]
+    return rows
+
+
+def gets(market, lists, house):
+    """The offer that a house gets if these lists are told, by rounds of the document."""
+    firsts = by_told(market, lists)
+    got = best_settled(firsts, market.taker, tuple(range(market.taker.offers)))
+    there = [x for x in got if x in market.shares[house]]
+    assert len(there) <= 1
+    return there[0] if there else None
+
+
+def by_told(market, lists):
+    picks = []
+    for some in sets_of(market.taker.offers):
+        found = {next((x for x in row if x in some), None) for row in lists} - {None}
+        picks.append(tuple(sorted(found)))
+    return Chooser(market.taker.offers, tuple(picks))
+
+
+def has_rather(market, house, one, other):
+    """Whether a house has one offer, or None, rather than another: by what is listed, nothing, all else."""
+    row = [*market.lists[house], None]
+    if one not in row:
+        return False
+    return other not in row or row.index(one) < row.index(other)

@@ -6,8 +6,12 @@ from itertools import combinations, permutations, product
 
 from offerstands import errors
 from offerstands.choosers import Chooser, all_sets
+from offerstands.console import Console
+from offerstands.house import House
+from offerstands.keepers import Keeper
 from offerstands.lists import by_lists
 from offerstands.making import either_of, first_some, in_turn, leaving_out
+from offerstands.markets import Market
 from offerstands.settlers import Settler
 from offerstands.trades import Trade
 
@@ -24,6 +28,12 @@ EVERY = by_lists(3, ((0,), (1,), (2,)))
 LENDERS = by_lists(4, ((1, 0), (3, 2)))
 TAKERS = by_lists(4, ((0, 3), (2, 1)))
 SETTLER = Settler(BEST, BOTH, Trade((1, 1), ()))
+KEEPER = Keeper(BEST, BOTH, Trade((1, 1), ()), 1)
+MARKET = Market(BEST, ((0,), (1,)), ((0,), (1,)))
+HOUSE, CONSOLE = House(), Console()
+HOUSE.set_up("a", Trade((1, 1), ()), 1, (BEST,))
+DESK = HOUSE.desk("a")
+ONE = "chooser 1\n-\n0"
 
 
 def deep(value, levels):
@@ -69,7 +79,23 @@ def any_values():
         ("plan", (((), ()),)), ("plan", ([(), ()],)), ("plan", (((),),)), ("barred", ()),
         ("barred", (((), (), 0, ("day",)),)), ("barred", (((), (), True, ("day",)),)), ("barred", (((), (), 0),)),
         ("barred", (((), (), 0, None),)), ((), ()), [(), ()], (((0, 1),), (0,)), (((0, 1),), (True,)), (((0, 1),), (1,)),
-        SETTLER, (SETTLER,), BEST, TWO, T, NOT_APART, (BEST,), (BEST, T), errors.BadSet(0), errors.OtherOffers(),
+        ("tells", (((0, 0), ()),)), ("tells", (((0, False), ()),)), ("fails", (), ()), ("fails", [], []),
+        ("fails", ((0, 1),), ()), ("fewest", ((((), 0),),), ((),)), ("fewest", ((((), False),),), ((),)), ((((), 0),),),
+        [[((), 0)]], (((0, (), 0),),), (((False, (), 0),),), ("gains", 0, 0), ("gains", True, 0), ("gains", 0, None),
+        ("gains", [], {}), ("true", ()), ("true", ((),)), ("true", [()]), ("true", ((), ())), ("gain", (0,)),
+        ("gain", (True,)), ("gain", ()), ("gain", [0]), ("none", ()), ("none", (((0,), 0),)), ("none", (((0,), True),)),
+        ("none", [((0,), 0)]), ("lists", 1), ("lists", -1), ("lists", True), ("shelf", 1), ("notes", 40), ("notes", ()),
+        ("notes", ((),)), ("notes", ((), (("come", 0),))), ("notes", [()]), ("waits", 0), ("waits", True),
+        ("breaks", (1, 2)), ("breaks", (1, 0)), ("breaks", [1, 2]), ("breaks", (True, 2)), ("breaks", (0, 1), ()),
+        ("breaks", (1, 1), ("restless", ())), ("same settled", (0,)), ("same settled", (1, 0)), ("same settled", None),
+        ("unlike", (0,)), ("unlike", (True,)), ("unlike", [0]), ("lists", 0, ("fewest", (), ())),
+        ("lists", True, ("fewest", (), ())), ("set up", "b", "trade 1\noffer 1 firm", 1, (ONE,)),
+        ("edition", "a", (ONE,)), ("take down", "a"), ("promise", "a", ("lists", 1)), ("release", "a", None),
+        (("take down", "a"),), ("apart", ONE, ("lists", ((0,),))), ("apart", ONE), ("apart", BEST, ("lists", ())),
+        ["apart", ONE, ("lists", ((0,),))], ("shown", 1, (ONE,), (ONE,), ()), ("fault", "", (), (), (), ()),
+        "abcdefgh", "abcdefghi", "A", "a b", "names ", "undo undo", "set a 1", "take a +0",
+        KEEPER, MARKET, HOUSE, DESK, CONSOLE, (MARKET,), [HOUSE], SETTLER, (SETTLER,), BEST, TWO, T, NOT_APART,
+        (BEST,), (BEST, T), errors.BadSet(0), errors.OtherOffers(),
         ("picks", BEST), ("picks", T), ("picks", 0), ("picks",), ["picks", BEST], ("picks", BEST, 0),
         ("takes", BEST, 2),
         ("takes", BEST, True), ("takes", BEST), ("takes", 0, BEST), ("settled", BEST, TWO), ("settled", BEST),
@@ -83,7 +109,9 @@ def freeze(value):
         return (type(value).__name__, tuple([freeze(part) for part in value]))
     if isinstance(value, dict):
         return ("dict", tuple([(freeze(key), freeze(value[key])) for key in value]))
-    if isinstance(value, (Chooser, Trade)):
+    if isinstance(value, House):
+        return ("House", freeze(value.log()))
+    if isinstance(value, (Chooser, Trade, Market)):
         return (type(value).__name__, tuple([(key, freeze(part)) for key, part in sorted(vars(value).items())]))
     return (type(value).__name__, repr(value) if not isinstance(value, Exception) else id(value))
 

@@ -114,6 +114,45 @@ FUNCTIONS = {
         "waiting_holds(near, far, trade, number, thing)", "fewest_deeds(near, far, trade, number, *, most=400)",
         "greatest_plan(near, far, trade, number, *, most=400)",
     ],
+    "offices": [
+        "are_shares(trade, thing)", "views_of(trade, share)", "view_of(share, dated)",
+        "is_office(trade, shares, thing)", "slip_of(trade, shares, office, dated)", "marks_used(trade, shares, office)",
+    ],
+    "slips": [
+        "marks_needed(chooser, trade, shares, word)", "least_office(chooser, trade, shares, word)",
+        "does_office_tell(chooser, trade, shares, word, office)", "judge_office(chooser, trade, shares, word, office)",
+        "office_holds(chooser, trade, shares, word, office, thing)", "judge_fewest_marks(chooser, trade, shares, word)",
+        "fewest_marks_hold(chooser, trade, shares, word, thing)",
+        "told_by_slip(chooser, trade, shares, word, office, slip)",
+    ],
+    "relays": [
+        "is_relay(trade, shares, thing)", "marks_along(trade, shares, relay, dated)",
+        "marks_in_row(chooser, trade, shares, word)", "least_relay(chooser, trade, shares, word)",
+        "does_relay_tell(chooser, trade, shares, word, relay)", "judge_relay(chooser, trade, shares, word, relay)",
+        "relay_holds(chooser, trade, shares, word, relay, thing)",
+    ],
+    "markets": [
+        "are_told(market, thing)", "houses_chooser(market, told)", "outcome(market, told)", "gets(market, told, house)",
+        "told_by(market, told, house, row)", "has_rather(market, house, one, other)", "are_cut(market, told, longer)",
+    ],
+    "lies": [
+        "does_gain(market, house, row)", "first_gain(market)", "judge_lies(market)", "lies_hold(market, thing)",
+        "menu(market, house)",
+    ],
+    "groups": [
+        "is_group(market, thing)", "group_gain(market, group)", "first_group(market)", "judge_group(market, group)",
+        "group_holds(market, group, thing)",
+    ],
+    "promises": [
+        "is_promise(trade, many, thing)", "fault_of(trade, choosers, promise, before)",
+        "fault_holds(trade, choosers, promise, before, thing)",
+    ],
+    "gates": [
+        "is_shown(room, before, after)", "first_shown(room, before, after)", "shown_holds(room, before, after, thing)",
+    ],
+    "chooserfindings": ["chooser_finding_holds(thing)"],
+    "sidefindings": ["side_finding_holds(thing)"],
+    "findings": ["finding_holds(thing)"],
 }
 CLASSES = {
     "choosers": {"Chooser": {
@@ -125,8 +164,25 @@ CLASSES = {
         "read": "(cls, text)",
     }},
     "settlers": {"Settler": {"__init__": "(self, near, far, trade)", "take": "(self, deed)", "undo": "(self)"}},
+    "keepers": {"Keeper": {"__init__": "(self, near, far, trade, number)", "take": "(self, deed)", "undo": "(self)"}},
+    "markets": {"Market": {
+        "__init__": "(self, taker, shares, lists)", "__len__": "(self)", "__eq__": "(self, other)",
+    }},
+    "house": {"House": {
+        "__init__": "(self)", "set_up": "(self, name, trade, room, choosers)", "add_edition": "(self, name, choosers)",
+        "make_promise": "(self, name, promise)", "release_promise": "(self, name, promise)",
+        "take_down": "(self, name)", "undo": "(self)", "log": "(self)", "of": "(cls, log)", "trial": "(self)",
+        "names": "(self)", "trade_of": "(self, name)", "room_of": "(self, name)", "editions": "(self, name)",
+        "promises": "(self, name)", "__eq__": "(self, other)", "__len__": "(self)", "desk": "(self, name)",
+    }},
+    "desks": {"Desk": {"take": "(self, deed)", "undo": "(self)", "move_on": "(self)"}},
+    "console": {"Console": {"__init__": "(self)", "run": "(self, command)", "house_now": "(self)"}},
 }
-PROPERTIES = {"settlers": {"Settler": ["stood", "kept_now", "broken_so_far", "deeds_done"]}}
+PROPERTIES = {
+    "settlers": {"Settler": ["stood", "kept_now", "broken_so_far", "deeds_done"]},
+    "keepers": {"Keeper": ["standing_now", "kept_word", "waiting_now", "deeds_past"]},
+    "desks": {"Desk": ["stands_now", "stream_now", "skylines_now", "taken_now"]},
+}
 
 
 def module(name):

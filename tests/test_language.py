@@ -28,8 +28,8 @@ KEYWORDS = {"sorted": ("key", "reverse"), "min": ("key", "default"), "max": ("ke
 # None of these is needed so far, or is allowed at all.
 FORBIDDEN = (
     ast.Global, ast.Nonlocal, ast.AsyncFunctionDef, ast.Await, ast.AsyncFor, ast.AsyncWith, ast.Yield, ast.YieldFrom,
-    ast.GeneratorExp, ast.Set, ast.SetComp, ast.Div, ast.Try, ast.With, ast.Match, ast.Delete, ast.AnnAssign,
-    ast.Import, ast.MatMult,
+    ast.GeneratorExp, ast.Set, ast.SetComp, ast.Div, ast.With, ast.Match, ast.AnnAssign, ast.Import, ast.MatMult,
+    ast.TryStar,
 )
 
 
@@ -58,7 +58,12 @@ def imported(tree):
 def bound_by(nodes):
     """All names of parameters and variables."""
     found = [node.arg for node in nodes if isinstance(node, ast.arg)]
+    found += [node.name for node in nodes if isinstance(node, ast.ExceptHandler) and node.name]
     return found + [node.id for node in nodes if isinstance(node, ast.Name) and not isinstance(node.ctx, ast.Load)]
+
+
+def is_called(node):
+    return isinstance(node.parent, ast.Call) and node.parent.func is node
 
 
 def is_call_of(node, names):
@@ -105,11 +110,35 @@ class ModulesTest(unittest.TestCase):
                     self.assertTrue(at == 0 and isinstance(node.value.value, str), name)
                 elif isinstance(node, ast.Assign):
                     self.assertTrue(len(node.targets) == 1 and isinstance(node.targets[0], ast.Name), name)
-                    ast.literal_eval(node.value)
+                    self.look_at_value(name, node)
                 else:
                     self.assertIsInstance(node, (ast.ImportFrom, ast.FunctionDef, ast.ClassDef), name)
             names = defined(tree) + imported(tree)
             self.assertEqual(len(names), len(set(names)), name)
+
+    def look_at_value(self, name, node):
+        """A plain value, or a dict of plain keys and functions that are defined above it."""
+        value = node.value
+        if isinstance(value, ast.Dict) and isinstance(value.values[0], ast.Name):
+            above = [part.name for part in node.parent.body if isinstance(part, ast.FunctionDef)
+                     and part.lineno < node.lineno]
+            self.assertTrue({part.id for part in value.values} <= set(above), name)
+            self.assertEqual(len({part.value for part in value.keys}), len(value.keys))
+        else:
+            ast.literal_eval(value)
+
+    def test_tables_are_only_read(self):
+        for name, tree in trees().items():
+            tables = [node.targets[0].id for node in tree.body
+                      if isinstance(node, ast.Assign) and isinstance(node.value, (ast.Dict, ast.List))]
+            for node in ast.walk(tree):
+                if isinstance(node, ast.Name) and node.id in tables and isinstance(node.ctx, ast.Load):
+                    indexed = isinstance(node.parent, ast.Subscript) and isinstance(node.parent.ctx, ast.Load)
+                    # What is called is given a name first.
+                    named = indexed and isinstance(node.parent.parent, (ast.Assign, ast.Compare, ast.BinOp))
+                    tested = isinstance(node.parent, ast.Compare)
+                    copied = is_call_of(node.parent, ("dict", "list"))
+                    self.assertTrue(named or tested or copied, (name, node.lineno))
 
     def test_imports(self):
         there, told = trees(), {}
@@ -166,12 +195,14 @@ class NamesTest(unittest.TestCase):
         there = trees()
         attributes = [node for tree in there.values() for node in ast.walk(tree) if isinstance(node, ast.Attribute)]
         assigned = {node.attr for node in attributes if isinstance(node.ctx, ast.Store)}
-        methods = {node.name for tree in there.values() for made in tree.body if isinstance(made, ast.ClassDef)
-                   for node in made.body if isinstance(node, ast.FunctionDef)}
-        self.assertFalse(methods & assigned)
+        inner = [node for tree in there.values() for made in tree.body if isinstance(made, ast.ClassDef)
+                 for node in made.body if isinstance(node, ast.FunctionDef)]
+        properties = {node.name for node in inner if "property" in [word.id for word in node.decorator_list]}
+        methods = {node.name for node in inner} - properties
+        self.assertFalse((methods | properties) & assigned or properties & (methods | METHODS))
         for node in attributes:
             called = isinstance(node.parent, ast.Call) and node.parent.func is node
-            self.assertIn(node.attr, METHODS | methods if called else assigned, node.lineno)
+            self.assertIn(node.attr, METHODS | methods if called else assigned | properties, node.lineno)
             if called and node.attr in METHODS:
                 self.assertFalse(node.parent.keywords)
 
@@ -221,9 +252,12 @@ class ExpressionsTest(unittest.TestCase):
         for name, node in self.each(ast.Name):
             if isinstance(node.ctx, ast.Load) and node.id in (BUILTINS | made):
                 told = isinstance(node.parent, ast.Call) and node.parent.func is node
+                # A class method is called off its class.
+                told = told or isinstance(node.parent, ast.Attribute) and is_called(node.parent)
                 asked = is_call_of(node.parent, ("isinstance",))
-                above = isinstance(node.parent, (ast.ClassDef, ast.FunctionDef))
-                listed = isinstance(node.parent, ast.Tuple) and is_call_of(node.parent.parent, ("isinstance",))
+                above = isinstance(node.parent, (ast.ClassDef, ast.FunctionDef, ast.ExceptHandler))
+                listed = isinstance(node.parent, ast.Tuple) and (
+                    is_call_of(node.parent.parent, ("isinstance",)) or isinstance(node.parent.parent, ast.ExceptHandler))
                 self.assertTrue(told or asked or above or listed, (name, node.lineno, node.id))
 
     def test_raised_errors_are_made_on_the_spot(self):
@@ -231,6 +265,34 @@ class ExpressionsTest(unittest.TestCase):
         for name, node in self.each(ast.Raise):
             self.assertTrue(is_call_of(node.exc, errors) and node.cause is None, (name, node.lineno))
             self.assertFalse([part for part in node.exc.args if isinstance(part, ast.Starred)], (name, node.lineno))
+
+    def test_handlers_name_own_errors(self):
+        errors = defined(trees()["errors"])
+        for name, node in self.each(ast.ExceptHandler):
+            words = node.type.elts if isinstance(node.type, ast.Tuple) else [node.type]
+            self.assertTrue({word.id for word in words} <= set(errors), (name, node.lineno))
+        for name, node in self.each(ast.Try):
+            self.assertFalse(node.finalbody or node.orelse, (name, node.lineno))
+        for name, node in self.each(ast.FunctionDef):
+            names = [part.name for part in ast.walk(node) if isinstance(part, ast.ExceptHandler) and part.name]
+            stored = [part.id for part in ast.walk(node) if isinstance(part, ast.Name)
+                      and isinstance(part.ctx, ast.Store)] + [part.arg for part in ast.walk(node) if isinstance(part, ast.arg)]
+            self.assertFalse(len(names) != len(set(names)) or set(names) & set(stored), (name, node.name))
+
+    def test_deleted_are_items(self):
+        for name, node in self.each(ast.Delete):
+            self.assertTrue(all(isinstance(part, ast.Subscript) for part in node.targets), (name, node.lineno))
+
+    def test_special_methods_assign_nothing(self):
+        for name, node in self.each(ast.FunctionDef):
+            if node.name in ("__eq__", "__len__", "__str__", "__repr__"):
+                # A local list that the method makes itself may be assigned.
+                for part in ast.walk(node):
+                    self.assertNotIsInstance(part, (ast.AugAssign, ast.NamedExpr), (name, node.lineno))
+                    if isinstance(part, ast.Assign):
+                        self.assertIsInstance(part.value, (ast.List, ast.ListComp), (name, node.lineno))
+                        self.assertIsInstance(part.targets[0], ast.Name, (name, node.lineno))
+                self.assertIsInstance(node.body[-1], ast.Return)
 
     def test_sets_are_sorted_or_counted_at_once(self):
         for name, node in self.each(ast.Call):
