@@ -149,6 +149,7 @@ def refused(test, error, told, function, *values, **named):
 def spoilt(value):
     """Values that come of one by putting one of its parts otherwise, leaving it out, or doubling it."""
     if isinstance(value, tuple):
+        yield 0
         yield list(value)
         yield (*value, 0)
         yield (*value, ())

@@ -382,6 +382,21 @@ class FindingsTest(unittest.TestCase):
         self.assertIs(finding_holds(("lies", BEST_TEXT, ((0, 1),), ((),), ("true", ((),)))), True)
         self.assertIs(finding_holds(("shown", 2, (BEST_TEXT,), (WRONG,), (("come", 0), ("come", 1)))), False)
 
+    def test_rooms(self):
+        none, before, coming = str(by_lists(2, ())), (BEST_TEXT,), (("come", 0),)
+        for room, right in ((1, True), (2, True), (10 ** 12, True), (0, False), (-1, False), (True, False)):
+            self.assertIs(finding_holds(("shown", room, before, (none,), coming)), right, room)
+        self.assertIs(finding_holds(("shown", 1, before, (str(LEAST),), (("come", 0), ("come", 1)))), False)
+
+    def test_all_of_one_finding_have_equally_many_offers(self):
+        """Also an edition that is not looked at; the texts of it can be any others of as many offers."""
+        fault, two = fault_of(T, (BEST,), ("shelf", 1), ()), str(TWO)
+        for before, right in (((BOTH_TEXT,), True), ((BOTH_TEXT, str(LEAST)), True), ((two,), False),
+                              ((BEST_TEXT, two), False), ((WRONG,), False), ((), False), ((BEST_TEXT,) * 3, False)):
+            self.assertIs(finding_holds(("fault", T_TEXT, (BEST_TEXT,), ("shelf", 1), before, fault)), right, before)
+        for before, after in (((BEST_TEXT,), (two,)), ((two, BEST_TEXT), (two, str(LEAST)))):
+            self.assertIs(finding_holds(("shown", 3, before, after, (("come", 0), ("come", 1)))), False)
+
     def test_mean_and_waiting_of_numbers_that_are_none(self):
         for fraction in ((-1, 1), (0, 0), (1, -1), (1,), (1, 1, 1), [1, 1], (True, 1), 1, None):
             for paper in (judge_mean(BEST, BOTH, T, (1, 1)), ("restless", restless_cells(BEST, BOTH, T, (0, 1)))):

@@ -87,6 +87,8 @@ class MarketTest(unittest.TestCase):
         others = [
             Market(FAIR, M.shares, M.lists), Market(SHY, M.shares, ((1, 0), (2, 3))), Market(SHY, M.shares, ((), ())),
             Market(SHY, ((2, 3), (0, 1)), ((2, 3), (0, 1))), Market(SHY, ((0, 1, 2, 3),), ((0, 1, 2, 3),)),
+            # Unlike by their shares alone.
+            Market(SHY, ((0, 2), (1, 3)), ((), ())),
         ]
         for at, one in enumerate([M, *others]):
             for further, other in enumerate([M, *others]):

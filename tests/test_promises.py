@@ -16,9 +16,10 @@ from test_trades import right_stream
 from offerstands.corners import fewest_hold, judge_fewest
 from offerstands.errors import OtherOffers
 from offerstands.lists import by_lists
-from offerstands.means import mean_broken, restless_cells
-from offerstands.plans import judge_waiting
+from offerstands.means import judge_mean, mean_broken, mean_holds, restless_cells
+from offerstands.plans import judge_waiting, least_waiting, waiting_holds
 from offerstands.promises import fault_holds, fault_of, is_promise
+from offerstands.shelves import judge_shelf, shelf_holds
 from offerstands.sides import settled_sets
 from offerstands.streams import bringing
 from offerstands.trades import Trade
@@ -273,6 +274,28 @@ class FaultsTest(unittest.TestCase):
         self.assertIs(fault_holds(T, (BEST,), ("shelf", 2), (), ("beyond", (("come", 1), ("day",), ("come", 0)))), False)
         self.assertIs(fault_holds(T, (BEST,), ("notes", 6), (), fault_of(T, (BEST,), ("notes", 5), ())), False)
         self.assertIs(fault_holds(T, (BEST,), ("notes", 4), (), fault_of(T, (BEST,), ("notes", 5), ())), False)
+
+
+    def test_right_papers_of_the_other_kind_are_no_faults(self):
+        """Papers that a promise is kept, each right for what it says."""
+        edition = (BEST, BOTH)
+        for trade in (T, U):
+            calendar, worths = ((0, 1),), (1, 1)
+            most, least = max(len(row) for row in skylines(BEST, trade)), least_waiting(*edition, trade)
+            mean = mean_broken(*edition, trade)
+            within = judge_shelf(BEST, trade, calendar, worths, most)
+            plan = judge_waiting(*edition, trade, least)
+            self.assertEqual((within[0], plan[0]), ("within", "plan"))
+            self.assertIs(shelf_holds(BEST, trade, calendar, worths, most, within), True)
+            self.assertIs(waiting_holds(*edition, trade, least, plan), True)
+            self.assertIs(fault_holds(trade, edition, ("shelf", most), edition, within), False)
+            self.assertIs(fault_holds(trade, edition, ("waits", least), edition, plan), False)
+            for fraction, greater in ((mean, (mean[0] + 1, mean[1])), ((0, 1), mean), ((0, 1), (1, 1))):
+                calm = judge_mean(*edition, trade, greater)
+                self.assertEqual(calm[0], "calm")
+                self.assertIs(mean_holds(*edition, trade, greater, calm), True)
+                fault = ("breaks", greater, calm)
+                self.assertIs(fault_holds(trade, edition, ("breaks", fraction), edition, fault), False)
 
 
 class ErrorsTest(unittest.TestCase):
