@@ -82,7 +82,7 @@ def all_houses(seed):
     # Deeds force loans to be broken there, by which some positions come to greater means than others.
     for hard, lives, loose in (
             (837562398, (2, 1, 1, 2), ()), (854611199, (1, 2, 1, 2), (0, 1, 2, 3)), (974851282, (1, 1, 2, 1), (3,)),
-            (857458561, (1, 1, 1, 2), (0, 3)),
+            (857458561, (1, 1, 1, 2), (0, 3)), (360744044, (1, 1, 1, 1), ()),
     ):
         found.append((*random_choosers(4, 2, hard), Trade(lives, loose)))
     return found + [(LENDERS, TAKERS, Trade((1, 1, 1, 1), (0, 2))), (LENDERS, TAKERS, Trade((1, 1, 1, 1), ()))]

@@ -165,6 +165,21 @@ class OnePapersTest(unittest.TestCase):
         self.assertIs(one_holds(PICKS, T, B, A, ("one", needed)), False)
         self.assertIs(one_holds(PICKS, U, A, B, ("one", every)), False)
 
+    def test_all_that_deeds_lead_to_from_unlike_ones(self):
+        """Pairs that lack nothing but that the answers are the same."""
+        unlike = 0
+        for question, trade, one, other in list(cases(123))[::7]:
+            rows = [(one, other)]
+            for pair in rows:
+                for deed in deeds_of_trade(trade):
+                    found = tuple(naive.after(trade, dated, deed) for dated in pair)
+                    rows += [found] if found not in rows else []
+            paper = ("one", tuple(sorted(rows)))
+            told = judge_one(question, trade, one, other) == paper
+            self.assertIs(one_holds(question, trade, one, other, paper), told)
+            unlike += not told
+        self.assertGreater(unlike, 5)
+
     def test_all_pairs_of_a_great_trade(self):
         question, trade = ("takes", by_lists(4, ((0, 1, 2, 3),)), 3), Trade((3, 3, 3, 3), ())
         numbers = numbers_of(question, trade)
