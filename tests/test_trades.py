@@ -169,6 +169,11 @@ class KindsTest(unittest.TestCase):
                 self.assertIs(called(self, is_stream, trade, thing), right_stream(trade, thing), thing)
         self.assertIs(is_stream(T, (("gone", 1),)), False)
         self.assertIs(is_stream(U, (("gone", 0),)), False)
+        for trade in (T, U, Trade((1,), (0,)), Trade((1,) * 9, tuple(range(9)))):
+            for word in ("come", "gone"):
+                for offer in range(-2, len(trade) + 3):
+                    thing = (("day",), (word, offer))
+                    self.assertIs(is_stream(trade, thing), right_stream(trade, thing), thing)
         self.assertIs(is_stream(U, (("gone", 1),) * 400), True)
 
 
